@@ -31,8 +31,6 @@ func dhNode(a, b int) impl.Node { return kindNode(impl.TmDh, a, b) }
 
 func with(a impl.Arena, more ...impl.Node) []impl.Node { return slices.Concat(a.Nodes, more) }
 
-func isThere(nodes []impl.Node, k int) bool { return k >= 0 && k < len(nodes) }
-
 func plainAtom(nodes []impl.Node, n int) ([]impl.Node, int) { return plainPut(nodes, atomNode(n)) }
 
 func plainMake(nodes []impl.Node, kind, x, y int) ([]impl.Node, int) {
@@ -51,7 +49,7 @@ func plainList(nodes []impl.Node, list []int) ([]impl.Node, int) {
 		return plainAtom(nodes, 0)
 	}
 	others, k := plainList(nodes, list[1:])
-	if k < 0 || !isThere(nodes, list[0]) {
+	if k < 0 {
 		return nodes, -1
 	}
 	whole, k := plainPut(others, pairNode(list[0], k))
@@ -364,18 +362,90 @@ func TestP4PartsOfListsInLists(t *testing.T) {
 
 func TestP4ListOfKidsThatAreNotThere(t *testing.T) {
 	a := arenaOf(atomNode(7), atomNode(8))
-	for _, x := range []int{-1, 2, 3, 4, 5, 6, 2999, 3000, math.MaxInt, math.MinInt} {
+	for _, x := range []int{-1, -2, 7, 8, 2999, 3000, math.MaxInt, math.MinInt} {
 		for _, list := range [][]int{{x}, {x, 0}, {0, x}, {0, x, 1}, {x, x}, {0, 1, x}, {x, 0, 1}, {1, 0, 1, 0, x}, {x, 0, 1, 0, 1}} {
 			checkList(t, a, list, a.Nodes, -1)
+			checkList(t, impl.Arena{}, list, nil, -1)
 		}
 	}
-	// What comes to stand at such a place while the list is made was not there.
-	checkList(t, impl.Arena{}, []int{0}, nil, -1)
-	checkList(t, impl.Arena{}, []int{1, 0}, nil, -1)
-	checkList(t, impl.Arena{}, []int{0, 0}, nil, -1)
-	has := arenaOf(atomNode(0))
-	checkList(t, has, []int{1, 0}, has.Nodes, -1)
-	checkList(t, has, []int{2, 0, 0}, has.Nodes, -1)
+}
+
+// What the List of the others brought is there when the pair is put; what comes with the pair, or behind it, is not.
+func TestP4ListOfWhatItBringsItself(t *testing.T) {
+	two := []impl.Node{atomNode(5), atomNode(7)}
+	end := []impl.Node{atomNode(5), atomNode(0)}
+	twin := []impl.Node{atomNode(0), pairNode(0, 0)}
+	wrong := []impl.Node{pairNode(1, 1)}
+	for _, c := range []struct {
+		has    []impl.Node
+		list   []int
+		brings []impl.Node
+		at     int
+	}{
+		{nil, []int{0}, []impl.Node{atomNode(0), pairNode(0, 0)}, 1},
+		{nil, []int{0, 0}, []impl.Node{atomNode(0), pairNode(0, 0), pairNode(0, 1)}, 2},
+		{nil, []int{1, 0}, []impl.Node{atomNode(0), pairNode(0, 0), pairNode(1, 1)}, 2},
+		{nil, []int{2, 1, 0}, []impl.Node{atomNode(0), pairNode(0, 0), pairNode(1, 1), pairNode(2, 2)}, 3},
+		{nil, []int{1}, nil, -1},
+		{nil, []int{0, 1}, nil, -1},
+		{nil, []int{2, 0}, nil, -1},
+		{two, []int{2}, []impl.Node{atomNode(0), pairNode(2, 2)}, 3},
+		{two, []int{3, 0}, []impl.Node{atomNode(0), pairNode(0, 2), pairNode(3, 3)}, 4},
+		{two, []int{2, 3, 1}, []impl.Node{atomNode(0), pairNode(1, 2), pairNode(3, 3), pairNode(2, 4)}, 5},
+		{two, []int{3}, nil, -1},
+		{two, []int{0, 3}, nil, -1},
+		{two, []int{4, 0}, nil, -1},
+		{end, []int{2, 0}, []impl.Node{pairNode(0, 1), pairNode(2, 2)}, 3},
+		{end, []int{2}, nil, -1},
+		{end, []int{0, 2}, nil, -1},
+		{twin, []int{2, 0}, nil, -1},
+		{twin, []int{2, 0, 0}, []impl.Node{pairNode(0, 1), pairNode(2, 2)}, 3},
+		{wrong, []int{1}, []impl.Node{atomNode(0)}, 0},
+		{wrong, []int{2, 1}, nil, -1},
+	} {
+		a := arenaOf(c.has...)
+		checkList(t, a, c.list, with(a, c.brings...), c.at)
+		checkList(t, arenaOf(with(a, c.brings...)...), c.list, with(a, c.brings...), c.at)
+	}
+}
+
+// The last place that is there when a pair is put is that of the List of the others; its own, the next one, is not.
+func TestP4ListPlacesUpToTheListOfTheOthers(t *testing.T) {
+	for _, a := range []impl.Arena{{}, arenaOf(atomNode(7), atomNode(8)), arenaOf(impl.Node{}, hashNode(9))} {
+		end := len(a.Nodes)
+		for n := 1; n <= 5; n++ {
+			for i := range n {
+				list := make([]int, n)
+				others := end + n - 1 - i
+				for list[i] = 0; list[i] <= others; list[i]++ {
+					want := with(a, atomNode(0))
+					for j := n - 1; j >= 0; j-- {
+						want = append(want, pairNode(list[j], len(want)-1))
+					}
+					checkList(t, a, list, want, end+n)
+				}
+				checkList(t, a, list, a.Nodes, -1)
+			}
+		}
+	}
+}
+
+// A list that is made of its own pairs fills the room up to the last node, and not one further.
+func TestP4ListOfItsOwnPairsAndRoom(t *testing.T) {
+	for _, n := range []int{impl.MaxNodes - 2, impl.MaxNodes - 1, impl.MaxNodes} {
+		list := make([]int, n)
+		want := []impl.Node{atomNode(0)}
+		for i := n - 1; i >= 0; i-- {
+			list[i] = len(want) - 1
+			want = append(want, pairNode(list[i], list[i]))
+		}
+		if n >= impl.MaxNodes {
+			checkList(t, impl.Arena{}, list, nil, -1)
+			continue
+		}
+		checkList(t, impl.Arena{}, list, want, n)
+		checkTermParts(t, arenaOf(want...), n, n, list, true)
+	}
 }
 
 func TestP4LongLists(t *testing.T) {
@@ -799,13 +869,12 @@ func drawnMake(t *testing.T, draw *rand.Rand, a impl.Arena, x, y int) impl.Arena
 		return a
 	case 2:
 		list := drawList(draw, len(a.Nodes)-1)
-		b, k := impl.List(a, list)
-		if slices.ContainsFunc(list, func(x int) bool { return !isThere(a.Nodes, x) }) {
-			checkList(t, a, list, a.Nodes, -1)
-			return a
+		want, k := plainList(a.Nodes, list)
+		checkList(t, a, list, want, k)
+		if k >= 0 {
+			checkTermParts(t, arenaOf(want...), k, len(list), list, true)
 		}
-		checkTermParts(t, b, k, len(list), list, true)
-		return b
+		return arenaOf(want...)
 	case 3:
 		a, u := impl.Make(a, impl.TmPub, x, 0)
 		a, v := impl.Make(a, impl.TmPub, y, 0)
@@ -844,7 +913,7 @@ func TestP4AnswersAreNewMemory(t *testing.T) {
 			spoil(impl.Make(a, kind, 0, 4))
 			spoil(impl.Make(a, kind, 0, 77))
 		}
-		for _, l := range [][]int{nil, list, list[:1], {0}, {99}, {0, 99}, {99, 0}} {
+		for _, l := range [][]int{nil, list, list[:1], {0}, {7, 0}, {99}, {0, 99}, {99, 0}} {
 			spoil(impl.List(a, l))
 		}
 		for _, pub := range []int{2, 5, 0, 99} {
