@@ -432,26 +432,31 @@ func fullBut(room int, these ...impl.Node) []impl.Node {
 	return nodes
 }
 
-// Room for some of what a call brings is room for none of it.
+// checkRoom has each beginning of what a call brings there, and room for none of the rest up to more than all of it: room for some is room for none.
+func checkRoom(t *testing.T, c secretCase) {
+	t.Helper()
+	for there := range len(c.brings) + 1 {
+		missing := len(c.brings) - there
+		for room := range len(c.brings) + 2 {
+			nodes := fullBut(room, c.brings[:there]...)
+			if room < missing {
+				checkRefused(t, nodes, c.call)
+				continue
+			}
+			want, k := c.call.plain(nodes)
+			if len(want) != len(nodes)+missing || k < 0 {
+				t.Fatalf("%s with room for %d brings %d, not %d", c.call.name, room, len(want)-len(nodes), missing)
+			}
+			checkSecret(t, nodes, c.call, want, k)
+		}
+		over := append(fullBut(0, c.brings[:there]...), atomNode(70000), hashNode(2))
+		checkPlain(t, over, c.call)
+	}
+}
+
 func TestP6Room(t *testing.T) {
 	for _, c := range secretCases() {
-		for there := range len(c.brings) + 1 {
-			missing := len(c.brings) - there
-			for room := range 6 {
-				nodes := fullBut(room, c.brings[:there]...)
-				if room < missing {
-					checkRefused(t, nodes, c.call)
-					continue
-				}
-				want, k := c.call.plain(nodes)
-				if len(want) != len(nodes)+missing || k < 0 {
-					t.Fatalf("%s with room for %d brings %d, not %d", c.call.name, room, len(want)-len(nodes), missing)
-				}
-				checkSecret(t, nodes, c.call, want, k)
-			}
-			over := append(fullBut(0, c.brings[:there]...), atomNode(70000), hashNode(2))
-			checkPlain(t, over, c.call)
-		}
+		checkRoom(t, c)
 	}
 }
 
@@ -578,14 +583,13 @@ func TestP6DrawnSecrets(t *testing.T) {
 	}
 }
 
-// Every answer is changed all over; the argument and the spare room behind it stay as they are, and so does the next answer.
-func TestP6AnswersAreNewMemory(t *testing.T) {
-	first := slices.Concat(threeSecrets, []impl.Node{atomNode(1), kdfNode(0, 3), hashNode(1)})
+// checkNewMemory changes every answer all over; the argument and the spare room behind it stay as they are, and so does the next answer.
+func checkNewMemory(t *testing.T, first []impl.Node, calls []secretCall) {
+	t.Helper()
 	spare := impl.Node{Kind: 55, Num: 55, A: 55, B: 55}
 	spares := slices.Repeat([]impl.Node{spare}, 12)
 	room := slices.Concat(first, spares)
 	a := impl.Arena{Nodes: room[:len(first)]}
-	calls := allCalls(len(first))
 	for range 2 {
 		for _, c := range calls {
 			b, _ := c.call(a)
@@ -599,4 +603,9 @@ func TestP6AnswersAreNewMemory(t *testing.T) {
 		}
 	}
 	checkPlain(t, a.Nodes, calls...)
+}
+
+func TestP6AnswersAreNewMemory(t *testing.T) {
+	first := slices.Concat(threeSecrets, []impl.Node{atomNode(1), kdfNode(0, 3), hashNode(1)})
+	checkNewMemory(t, first, allCalls(len(first)))
 }
