@@ -789,14 +789,20 @@ func drawNode(draw *rand.Rand, k int) impl.Node {
 	return n
 }
 
+// drawNodes are fewer nodes than below tells, drawn one by one, each mostly of those ahead of it.
+func drawNodes(draw *rand.Rand, below int, one func(draw *rand.Rand, k int) impl.Node) []impl.Node {
+	var nodes []impl.Node
+	for k := range draw.Intn(below) {
+		nodes = append(nodes, one(draw, max(k-1, 0)))
+	}
+	return nodes
+}
+
 // Drawn arenas, most of them not right: every function answers as the plain way does.
 func TestP3DrawnArenas(t *testing.T) {
 	draw := rand.New(rand.NewSource(5))
 	for range 20000 {
-		var nodes []impl.Node
-		for k := range draw.Intn(9) {
-			nodes = append(nodes, drawNode(draw, max(k-1, 0)))
-		}
+		nodes := drawNodes(draw, 9, drawNode)
 		a := arenaOf(nodes...)
 		if got, want := impl.ArenaOk(a), plainArenaOk(nodes); got != want {
 			t.Errorf("ArenaOk(%v) = %v; want %v", nodes, got, want)

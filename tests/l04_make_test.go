@@ -808,10 +808,7 @@ func drawList(draw *rand.Rand, end int) []int {
 func TestP4DrawnArenas(t *testing.T) {
 	draw := rand.New(rand.NewSource(6))
 	for range 4000 {
-		var nodes []impl.Node
-		for k := range draw.Intn(9) {
-			nodes = append(nodes, drawNode(draw, max(k-1, 0)))
-		}
+		nodes := drawNodes(draw, 9, drawNode)
 		checkAll(t, nodes)
 		a := arenaOf(nodes...)
 		for range 6 {

@@ -166,33 +166,30 @@ func TestP6Sides(t *testing.T) {
 	}
 }
 
-// Node by node, in the order in which they are made; and once more, when all of them are there.
-func TestP6TermsNodeByNode(t *testing.T) {
-	for _, c := range secretCases() {
-		want := slices.Concat(threeSecrets, c.brings)
-		checkSecret(t, threeSecrets, c.call, want, len(want)-1)
-		checkSecret(t, want, c.call, want, len(want)-1)
-		behind := slices.Concat(want, []impl.Node{atomNode(77), hashNode(0)})
-		checkSecret(t, behind, c.call, behind, len(want)-1)
+// checkNodeByNode asks for what a call brings, node by node, in the order in which they are made; once more, when all of them are there; and when each beginning of them is.
+func checkNodeByNode(t *testing.T, c secretCase) {
+	t.Helper()
+	want := slices.Concat(threeSecrets, c.brings)
+	for there := range len(c.brings) + 1 {
+		checkSecret(t, want[:3+there], c.call, want, len(want)-1)
+	}
+	behind := slices.Concat(want, []impl.Node{atomNode(77), hashNode(len(want))})
+	checkSecret(t, behind, c.call, behind, len(want)-1)
+	if !impl.ArenaOk(arenaOf(want...)) {
+		t.Errorf("%s makes an arena that is not right: %v", c.call.name, want)
 	}
 }
 
-// One that has others: what is made stands behind them, and of the chapter's own Atoms only those that are asked for count.
-func TestP6AmongOthers(t *testing.T) {
-	others := []impl.Node{atomNode(0), atomNode(3), atomNode(10), atomNode(13), atomNode(21), atomNode(31), pairNode(1, 0), hashNode(0), kdfNode(0, 1), macNode(0, 1)}
-	for _, c := range secretCases() {
-		nodes := slices.Concat(threeSecrets, others)
-		want := slices.Clone(nodes)
-		for _, n := range c.brings {
-			n.A, n.B = behindOthers(n.A, len(others)), behindOthers(n.B, len(others))
-			want = append(want, n)
-		}
-		if slices.Contains(nodes, want[len(nodes)]) {
-			checkPlain(t, nodes, c.call)
-			continue
-		}
-		checkSecret(t, nodes, c.call, want, len(want)-1)
+// checkAmong has others behind the three secrets, none of which the call asks for: what it brings stands behind them.
+func checkAmong(t *testing.T, c secretCase, others ...impl.Node) {
+	t.Helper()
+	nodes := slices.Concat(threeSecrets, others)
+	want := slices.Clone(nodes)
+	for _, n := range c.brings {
+		n.A, n.B = behindOthers(n.A, len(others)), behindOthers(n.B, len(others))
+		want = append(want, n)
 	}
+	checkSecret(t, nodes, c.call, want, len(want)-1)
 }
 
 func behindOthers(place int, others int) int {
@@ -202,13 +199,23 @@ func behindOthers(place int, others int) int {
 	return place + others
 }
 
-// Some are there already: each beginning of what a call brings, and each of its terms that is made of what is there alone.
+func TestP6TermsNodeByNode(t *testing.T) {
+	for _, c := range secretCases() {
+		checkNodeByNode(t, c)
+	}
+}
+
+// One that has others: what is made stands behind them, and of the chapter's own Atoms only those that are asked for count.
+func TestP6AmongOthers(t *testing.T) {
+	others := []impl.Node{atomNode(0), atomNode(3), atomNode(10), atomNode(13), atomNode(21), atomNode(31), pairNode(2, 1), hashNode(0), kdfNode(0, 1), macNode(0, 1)}
+	for _, c := range secretCases() {
+		checkAmong(t, c, others...)
+	}
+}
+
+// Some are there already: each of a call's terms that is made of what is there alone.
 func TestP6SomeAreThere(t *testing.T) {
 	for _, c := range secretCases() {
-		want := slices.Concat(threeSecrets, c.brings)
-		for n := range c.brings {
-			checkSecret(t, want[:3+n], c.call, want, len(want)-1)
-		}
 		for _, n := range c.brings {
 			for _, first := range []impl.Node{n, atomNode(1), atomNode(12), atomNode(20), atomNode(30), hashNode(1), hashNode(2)} {
 				if nodes := slices.Concat(threeSecrets, []impl.Node{first}); plainArenaOk(nodes) {
@@ -546,10 +553,7 @@ func drawSecretNode(draw *rand.Rand, k int) impl.Node {
 func TestP6DrawnArenas(t *testing.T) {
 	draw := rand.New(rand.NewSource(8))
 	for range 300 {
-		var nodes []impl.Node
-		for k := range draw.Intn(8) {
-			nodes = append(nodes, drawSecretNode(draw, max(k-1, 0)))
-		}
+		nodes := drawNodes(draw, 8, drawSecretNode)
 		checkPlain(t, nodes, allCalls(len(nodes))...)
 	}
 }

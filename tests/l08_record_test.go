@@ -185,18 +185,9 @@ func TestP8MaxEpoch(t *testing.T) {
 	}
 }
 
-// Node by node, in the order in which they are made; once more, when all of them are there; and when each beginning of them is.
 func TestP8TermsNodeByNode(t *testing.T) {
 	for _, c := range recordCases() {
-		want := slices.Concat(threeSecrets, c.brings)
-		for there := range len(c.brings) + 1 {
-			checkSecret(t, want[:3+there], c.call, want, len(want)-1)
-		}
-		behind := slices.Concat(want, []impl.Node{atomNode(77), hashNode(0)})
-		checkSecret(t, behind, c.call, behind, len(want)-1)
-		if !impl.ArenaOk(arenaOf(want...)) {
-			t.Errorf("%s makes an arena that is not right: %v", c.call.name, want)
-		}
+		checkNodeByNode(t, c)
 	}
 }
 
@@ -230,13 +221,7 @@ func TestP8OneAtomForAll(t *testing.T) {
 func TestP8AmongOthers(t *testing.T) {
 	others := []impl.Node{atomNode(10), atomNode(999), hashNode(0), pairNode(0, 1), sealNode(0, 1), sealNode(1, 0), kdfNode(0, 1)}
 	for _, c := range recordCases() {
-		nodes := slices.Concat(threeSecrets, others)
-		want := slices.Clone(nodes)
-		for _, n := range c.brings {
-			n.A, n.B = behindOthers(n.A, len(others)), behindOthers(n.B, len(others))
-			want = append(want, n)
-		}
-		checkSecret(t, nodes, c.call, want, len(want)-1)
+		checkAmong(t, c, others...)
 	}
 }
 
@@ -624,10 +609,7 @@ func drawRecordNode(draw *rand.Rand, k int) impl.Node {
 func TestP8DrawnArenas(t *testing.T) {
 	draw := rand.New(rand.NewSource(10))
 	for range 150 {
-		var nodes []impl.Node
-		for k := range draw.Intn(8) {
-			nodes = append(nodes, drawRecordNode(draw, max(k-1, 0)))
-		}
+		nodes := drawNodes(draw, 8, drawRecordNode)
 		checkPlain(t, nodes, recordCalls(len(nodes))...)
 		checkAllRecords(t, nodes)
 	}
