@@ -1,6 +1,7 @@
 package tests
 
 import (
+	"fmt"
 	"math"
 	"math/rand"
 	"slices"
@@ -192,6 +193,9 @@ func hashNode(a int) impl.Node { return impl.Node{Kind: impl.TmHash, A: a} }
 
 func pairNode(a, b int) impl.Node { return impl.Node{Kind: impl.TmPair, A: a, B: b} }
 
+// brief is the beginning of what is told of an arena or a list: one of MaxNodes would fill pages.
+func brief(told any) string { return fmt.Sprintf("%.400s", fmt.Sprint(told)) }
+
 // atomsArena has as many atoms, no two the same.
 func atomsArena(n int) impl.Arena {
 	var a impl.Arena
@@ -205,21 +209,21 @@ func checkPut(t *testing.T, a impl.Arena, n impl.Node, want []impl.Node, wantK i
 	t.Helper()
 	b, k := impl.Put(a, n)
 	if !slices.Equal(b.Nodes, want) || k != wantK {
-		t.Errorf("Put(%.200v of %d nodes, %v) = %.200v of %d nodes, %d; want %.200v of %d nodes, %d", a, len(a.Nodes), n, b.Nodes, len(b.Nodes), k, want, len(want), wantK)
+		t.Errorf("Put(%s of %d nodes, %v) = %s of %d nodes, %d; want %s of %d nodes, %d", brief(a), len(a.Nodes), n, brief(b.Nodes), len(b.Nodes), k, brief(want), len(want), wantK)
 	}
 }
 
 func checkSize(t *testing.T, a impl.Arena, k int, want int) {
 	t.Helper()
 	if got := impl.SizeOf(a, k); got != want {
-		t.Errorf("SizeOf(%.200v of %d nodes, %d) = %d; want %d", a, len(a.Nodes), k, got, want)
+		t.Errorf("SizeOf(%s of %d nodes, %d) = %d; want %d", brief(a), len(a.Nodes), k, got, want)
 	}
 }
 
 func checkText(t *testing.T, a impl.Arena, k int, want string, wantOk bool) {
 	t.Helper()
 	if s, ok := impl.TermText(a, k); s != want || ok != wantOk {
-		t.Errorf("TermText(%.200v of %d nodes, %d) = %.40q of %d bytes, %v; want %.40q of %d bytes, %v", a, len(a.Nodes), k, s, len(s), ok, want, len(want), wantOk)
+		t.Errorf("TermText(%s of %d nodes, %d) = %.40q of %d bytes, %v; want %.40q of %d bytes, %v", brief(a), len(a.Nodes), k, s, len(s), ok, want, len(want), wantOk)
 	}
 }
 
@@ -227,7 +231,7 @@ func checkRead(t *testing.T, a impl.Arena, text string, want []impl.Node, wantK 
 	t.Helper()
 	b, k, ok := impl.ReadTerm(a, text)
 	if !slices.Equal(b.Nodes, want) || k != wantK || ok != wantOk {
-		t.Errorf("ReadTerm(%.200v of %d nodes, %.40q of %d bytes) = %.200v of %d nodes, %d, %v; want %.200v of %d nodes, %d, %v", a, len(a.Nodes), text, len(text), b.Nodes, len(b.Nodes), k, ok, want, len(want), wantK, wantOk)
+		t.Errorf("ReadTerm(%s of %d nodes, %.40q of %d bytes) = %s of %d nodes, %d, %v; want %s of %d nodes, %d, %v", brief(a), len(a.Nodes), text, len(text), brief(b.Nodes), len(b.Nodes), k, ok, brief(want), len(want), wantK, wantOk)
 	}
 }
 
@@ -325,12 +329,12 @@ func TestP3ArenaOk(t *testing.T) {
 	right := arenaOf(atomNode(7), atomNode(0), hashNode(0), pairNode(0, 2), pairNode(2, 0), impl.Node{Kind: impl.TmPub, A: 0}, impl.Node{Kind: impl.TmKdf, A: 0, B: 2})
 	for _, a := range []impl.Arena{{}, {Nodes: []impl.Node{}}, arenaOf(atomNode(0)), right, atomsArena(impl.MaxNodes - 1), atomsArena(impl.MaxNodes)} {
 		if !impl.ArenaOk(a) {
-			t.Errorf("ArenaOk(%.200v of %d nodes) = false", a, len(a.Nodes))
+			t.Errorf("ArenaOk(%s of %d nodes) = false", brief(a), len(a.Nodes))
 		}
 	}
 	for _, a := range []impl.Arena{atomsArena(impl.MaxNodes + 1), atomsArena(2 * impl.MaxNodes), arenaOf(impl.Node{}), arenaOf(hashNode(0))} {
 		if impl.ArenaOk(a) {
-			t.Errorf("ArenaOk(%.200v of %d nodes) = true", a, len(a.Nodes))
+			t.Errorf("ArenaOk(%s of %d nodes) = true", brief(a), len(a.Nodes))
 		}
 	}
 	for k := range right.Nodes {

@@ -17,19 +17,28 @@ func plainCookie(nodes []impl.Node, secret, addr, hello int) ([]impl.Node, int) 
 		func(at []int) impl.Node { return macNode(at[0], at[5]) })
 }
 
-// plainCookieOk asks for each of the seven nodes by itself, from the cookie on down.
-func plainCookieOk(nodes []impl.Node, secret, addr, hello, cookie int) bool {
-	is := func(k int, kind int) bool { return plainNodeOk(nodes, k) && nodes[k].Kind == kind }
-	isAtom := func(k int, num int) bool { return is(k, impl.TmAtom) && nodes[k].Num == num }
-	if !is(cookie, impl.TmMac) || !isAtom(nodes[cookie].A, secret) || !is(nodes[cookie].B, impl.TmPair) {
-		return false
+// plainCookieAt is the place of the cookie that the plain way finds, where it puts nothing; -1 where it would put something, or can't.
+func plainCookieAt(nodes []impl.Node, secret, addr, hello int) int {
+	with, k := plainCookie(nodes, secret, addr, hello)
+	if len(with) != len(nodes) {
+		return -1
 	}
-	first := nodes[nodes[cookie].B]
-	if !isAtom(first.A, addr) || !is(first.B, impl.TmPair) {
-		return false
+	return k
+}
+
+// tellsCookie asks for each of the seven nodes by itself, from the cookie on down, wherever they stand.
+func tellsCookie(nodes []impl.Node, secret, addr, hello, cookie int) bool {
+	node := func(k int) impl.Node {
+		if k < 0 || k >= len(nodes) {
+			return impl.Node{}
+		}
+		return nodes[k]
 	}
-	second := nodes[first.B]
-	return is(second.A, impl.TmHash) && nodes[second.A].A == hello && isAtom(second.B, 0)
+	mac := node(cookie)
+	first := node(mac.B)
+	second := node(first.B)
+	return mac == macNode(mac.A, mac.B) && first == pairNode(first.A, first.B) && second == pairNode(second.A, second.B) &&
+		node(mac.A) == atomNode(secret) && node(first.A) == atomNode(addr) && node(second.A) == hashNode(hello) && node(second.B) == atomNode(0)
 }
 
 func cookieCall(secret, addr, hello int) secretCall {
@@ -46,7 +55,7 @@ func (c cookieAsk) call() secretCall { return cookieCall(c.secret, c.addr, c.hel
 func checkCookie(t *testing.T, nodes []impl.Node, c cookieAsk, cookie int, want bool) {
 	t.Helper()
 	if got := impl.CookieOk(arenaOf(nodes...), c.secret, c.addr, c.hello, cookie); got != want {
-		t.Fatalf("CookieOk(%.400v of %d nodes, %d, %d, %d, %d) = %v; want %v", nodes, len(nodes), c.secret, c.addr, c.hello, cookie, got, want)
+		t.Fatalf("CookieOk(%s of %d nodes, %d, %d, %d, %d) = %v; want %v", brief(nodes), len(nodes), c.secret, c.addr, c.hello, cookie, got, want)
 	}
 }
 
@@ -66,22 +75,35 @@ func checkNoCookie(t *testing.T, nodes []impl.Node, asks ...cookieAsk) {
 	}
 }
 
-// checkCookiesPlain holds every place, and some beside them, against the plain way; where the arena is right, it must also be what CookieOf finds there.
+// checkCookiesPlain holds every place, and some beside them, against the plain way: a cookie is right where it is found, and tells what is asked; where the arena is right, whatever tells that is it.
 func checkCookiesPlain(t *testing.T, nodes []impl.Node, asks ...cookieAsk) {
 	t.Helper()
 	right := plainArenaOk(nodes)
 	for _, c := range asks {
-		with, place := plainCookie(nodes, c.secret, c.addr, c.hello)
-		if len(with) != len(nodes) {
-			place = -1
-		}
+		place := plainCookieAt(nodes, c.secret, c.addr, c.hello)
 		for k := -1; k <= len(nodes)+1; k++ {
-			want := plainCookieOk(nodes, c.secret, c.addr, c.hello, k)
-			if right && want != (k >= 0 && k == place) {
-				t.Fatalf("the plain ways are unlike: %v is found at %d of %v, and is %v at %d", c, place, nodes, want, k)
+			is, tells := k >= 0 && k == place, tellsCookie(nodes, c.secret, c.addr, c.hello, k)
+			if is && !tells || right && tells && !is {
+				t.Fatalf("the plain ways are unlike: %v is found at %d of %v; that %d tells it is %v", c, place, nodes, k, tells)
 			}
-			checkCookie(t, nodes, c, k, want)
+			checkCookie(t, nodes, c, k, is)
 		}
+	}
+}
+
+// checkWherePut asks for a cookie, and that it is right where CookieOf put it, there alone, and ahead of that only where all of it was there.
+func checkWherePut(t *testing.T, nodes []impl.Node, c cookieAsk) {
+	t.Helper()
+	want, k := plainCookie(nodes, c.secret, c.addr, c.hello)
+	checkSecret(t, nodes, c.call(), want, k)
+	if k < 0 {
+		checkNoCookie(t, nodes, c)
+		return
+	}
+	checkOneCookie(t, want, c, k)
+	checkSecret(t, want, c.call(), want, k)
+	if len(want) != len(nodes) {
+		checkNoCookie(t, nodes, c)
 	}
 }
 
@@ -398,7 +420,7 @@ func cookieCalls(end int) []secretCall {
 	return calls
 }
 
-// A node that is not right, wherever it stands: in a cookie it makes it none, elsewhere it is not asked after.
+// A node that would be right nowhere, wherever it stands: in a cookie it makes it none, elsewhere it is not asked after.
 func TestP9WrongNodes(t *testing.T) {
 	right, cookie := mustCookie(t, threeSecrets, cookieAsk{9000, 3, 0})
 	for _, wrong := range wrongNodes {
@@ -435,27 +457,150 @@ func TestP9NodesWithMore(t *testing.T) {
 	}
 }
 
-// Terms that are not ahead of what is made of them make it none.
-func TestP9TermsThatAreNotAhead(t *testing.T) {
-	for _, nodes := range [][]impl.Node{
-		{atomNode(9000), atomNode(3), hashNode(0), atomNode(0), pairNode(2, 3), pairNode(1, 5), macNode(0, 5)},
-		{atomNode(9000), atomNode(3), hashNode(0), atomNode(0), pairNode(2, 4), pairNode(1, 4), macNode(0, 5)},
-		{atomNode(9000), atomNode(3), hashNode(2), atomNode(0), pairNode(2, 3), pairNode(1, 4), macNode(0, 5)},
-		{atomNode(9000), atomNode(3), hashNode(7), atomNode(0), pairNode(2, 3), pairNode(1, 4), macNode(0, 5)},
-		{macNode(1, 5), atomNode(9000), atomNode(3), hashNode(1), atomNode(0), pairNode(3, 4), pairNode(2, 5)},
-		{macNode(1, 6), atomNode(9000), atomNode(3), hashNode(1), atomNode(0), pairNode(3, 4), pairNode(2, 5)},
-		{atomNode(9000), atomNode(3), hashNode(0), atomNode(0), pairNode(2, 3), macNode(0, 6), pairNode(1, 4)},
-		{atomNode(9000), atomNode(3), atomNode(0), pairNode(4, 2), hashNode(0), pairNode(1, 3), macNode(0, 5)},
+// Terms that stand ahead of what they have are found there, as Put finds them: the cookie is right where CookieOf answers it.
+func TestP9TermsThatStandAheadOfWhatTheyHave(t *testing.T) {
+	for _, c := range []struct {
+		nodes []impl.Node
+		hello int
+		more  []impl.Node
+		k     int
+	}{
+		{[]impl.Node{atomNode(0), atomNode(1), pairNode(4, 0), atomNode(5)}, 0, []impl.Node{hashNode(0), pairNode(1, 2), macNode(3, 5)}, 6},
+		{[]impl.Node{atomNode(0), atomNode(1), pairNode(1, 5), atomNode(5)}, 0, []impl.Node{hashNode(0), pairNode(4, 0), macNode(3, 2)}, 6},
+		{[]impl.Node{atomNode(0), atomNode(1), hashNode(3), atomNode(5)}, 3, []impl.Node{pairNode(2, 0), pairNode(1, 4), macNode(3, 5)}, 6},
+		{[]impl.Node{atomNode(0), atomNode(1), macNode(3, 6), atomNode(5)}, 0, []impl.Node{hashNode(0), pairNode(4, 0), pairNode(1, 5)}, 2},
+		{[]impl.Node{macNode(3, 1), pairNode(4, 2), pairNode(5, 6)}, 0, []impl.Node{atomNode(5), atomNode(1), hashNode(0), atomNode(0)}, 0},
+		{[]impl.Node{hashNode(0)}, 0, []impl.Node{atomNode(5), atomNode(1), atomNode(0), pairNode(0, 3), pairNode(2, 4), macNode(1, 5)}, 6},
 	} {
-		for hello := range nodes {
-			checkNoCookie(t, nodes, cookieAsk{9000, 3, hello})
+		ask := cookieAsk{5, 1, c.hello}
+		all := slices.Concat(c.nodes, c.more)
+		checkSecret(t, c.nodes, ask.call(), all, c.k)
+		checkSecret(t, all, ask.call(), all, c.k)
+		checkOneCookie(t, all, ask, c.k)
+		for end := len(c.nodes); end < len(all); end++ { // what is missing is not put, also not where it would come to stand
+			checkNoCookie(t, all[:end], ask)
 		}
-		checkCookiesPlain(t, nodes, cookieAsks(len(nodes))...)
-		checkPlain(t, nodes, cookieCalls(len(nodes))...)
+		checkNoCookie(t, all, cookieAsk{5, 2, c.hello}, cookieAsk{5, 0, c.hello}, cookieAsk{6, 1, c.hello}, cookieAsk{1, 1, c.hello}, cookieAsk{1, 5, c.hello}, cookieAsk{5, 1, 1}, cookieAsk{5, 1, c.hello - 1}, cookieAsk{5, 1, len(all)})
 	}
 }
 
-// Of nodes that are there twice the first one is found; a cookie tells the same though it stands there twice, or is of the later ones.
+// Terms that have themselves, or each other: Put asks only whether they would be right behind all others.
+func TestP9TermsThatHaveThemselves(t *testing.T) {
+	for _, c := range []struct {
+		nodes []impl.Node
+		hello int // -1: none of them makes a cookie
+		k     int
+	}{
+		{[]impl.Node{atomNode(9000), atomNode(3), hashNode(2), atomNode(0), pairNode(2, 3), pairNode(1, 4), macNode(0, 5)}, 2, 6},
+		{[]impl.Node{atomNode(9000), atomNode(3), hashNode(6), atomNode(0), pairNode(2, 3), pairNode(1, 4), macNode(0, 5)}, 6, 6},
+		{[]impl.Node{macNode(1, 6), atomNode(9000), atomNode(3), hashNode(0), atomNode(0), pairNode(3, 4), pairNode(2, 5)}, 0, 0},
+		{[]impl.Node{atomNode(9000), atomNode(3), hashNode(7), atomNode(0), pairNode(2, 3), pairNode(1, 4), macNode(0, 5)}, -1, 0},
+		{[]impl.Node{atomNode(9000), atomNode(3), hashNode(0), atomNode(0), pairNode(2, 3), pairNode(1, 5), macNode(0, 5)}, -1, 0},
+		{[]impl.Node{atomNode(9000), atomNode(3), hashNode(0), atomNode(0), pairNode(2, 4), pairNode(1, 4), macNode(0, 5)}, -1, 0},
+		{[]impl.Node{atomNode(9000), atomNode(3), hashNode(0), atomNode(0), pairNode(2, 3), pairNode(1, 4), macNode(0, 6)}, -1, 0},
+		{[]impl.Node{atomNode(9000), atomNode(3), hashNode(0), atomNode(0), pairNode(2, 3), pairNode(1, 4), macNode(6, 5)}, -1, 0},
+		{[]impl.Node{atomNode(9000), atomNode(3), hashNode(0), atomNode(0), pairNode(2, 3), pairNode(1, 4), macNode(0, 7)}, -1, 0},
+	} {
+		for hello := -1; hello <= len(c.nodes)+1; hello++ {
+			ask := cookieAsk{9000, 3, hello}
+			if c.hello >= 0 && hello == c.hello {
+				checkSecret(t, c.nodes, ask.call(), c.nodes, c.k)
+				checkOneCookie(t, c.nodes, ask, c.k)
+			} else {
+				checkNoCookie(t, c.nodes, ask)
+			}
+		}
+		checkCookiesPlain(t, c.nodes, cookieAsks(len(c.nodes))...)
+		checkPlain(t, c.nodes, cookieCalls(len(c.nodes))...)
+	}
+}
+
+// inOrders hands out all orders of 0 .. n less 1.
+func inOrders(n int, each func(places []int)) {
+	places := make([]int, n)
+	var from func(i int)
+	from = func(i int) {
+		if i == n {
+			each(places)
+			return
+		}
+		for k := range i + 1 {
+			copy(places[k+1:i+1], places[k:i])
+			places[k] = i
+			from(i + 1)
+			copy(places[k:i], places[k+1:i+1])
+		}
+	}
+	from(0)
+}
+
+// moved has each node at another place, and what it has where that came to stand.
+func moved(nodes []impl.Node, places []int) []impl.Node {
+	out := make([]impl.Node, len(nodes))
+	for k, n := range nodes {
+		if parts := partsOfKind(n.Kind); parts > 0 {
+			n.A = places[n.A]
+			if parts == 2 {
+				n.B = places[n.B]
+			}
+		}
+		out[places[k]] = n
+	}
+	return out
+}
+
+// The nodes of a cookie in any order: it is right where its TmMac stands, and nowhere else.
+func TestP9AnyOrder(t *testing.T) {
+	for _, c := range []cookieAsk{{5, 1, 0}, {7, 7, 0}, {0, 5, 0}, {0, 0, 0}} {
+		nodes, cookie := mustCookie(t, []impl.Node{atomNode(0)}, c)
+		orders := 0
+		inOrders(len(nodes), func(places []int) {
+			orders++
+			all, ask := moved(nodes, places), cookieAsk{c.secret, c.addr, places[c.hello]}
+			checkSecret(t, all, ask.call(), all, places[cookie])
+			checkOneCookie(t, all, ask, places[cookie])
+			checkNoCookie(t, all, cookieAsk{c.secret, c.addr + 1, ask.hello}, cookieAsk{c.secret + 1, c.addr, ask.hello}, cookieAsk{c.secret, c.addr, places[1]}, cookieAsk{c.secret, c.addr, len(all)})
+		})
+		if want := map[int]int{5: 120, 6: 720, 7: 5040}[len(nodes)]; orders != want {
+			t.Errorf("%d orders of %d nodes; want %d", orders, len(nodes), want)
+		}
+	}
+}
+
+// A beginning of them, in any order: what is missing is put, or can't be; where it was put the cookie is right.
+func TestP9AnyOrderCutOff(t *testing.T) {
+	for _, c := range []cookieAsk{{5, 1, 0}, {7, 7, 0}, {0, 0, 0}} {
+		nodes, _ := mustCookie(t, []impl.Node{atomNode(0)}, c)
+		inOrders(len(nodes), func(places []int) {
+			all := moved(nodes, places)
+			for end := range all {
+				checkWherePut(t, all[:end], cookieAsk{c.secret, c.addr, places[c.hello]})
+			}
+		})
+	}
+}
+
+// The nodes of a cookie in any order, one of them being there once more: only what is made of the first ones is it.
+func TestP9AnyOrderAndOneTwice(t *testing.T) {
+	c := cookieAsk{0, 0, 0}
+	nodes, cookie := mustCookie(t, []impl.Node{atomNode(0)}, c)
+	inOrders(len(nodes), func(places []int) {
+		all := moved(nodes, places)
+		ask := cookieAsk{c.secret, c.addr, places[c.hello]}
+		for _, n := range all {
+			behind := slices.Concat(all, []impl.Node{n})
+			checkOneCookie(t, behind, ask, places[cookie])
+			for at := range behind {
+				twice := slices.Clone(behind)
+				twice[at].A = len(all) // of the later one
+				checkCookiesPlain(t, twice, ask, cookieAsk{0, 0, len(all)})
+				checkWherePut(t, twice, ask)
+			}
+		}
+	})
+}
+
+// Of nodes that are there twice the first one is found; a later cookie, and one of later ones, is another term.
 func TestP9NodesTwice(t *testing.T) {
 	nodes := []impl.Node{secretAtom(0), secretAtom(0), atomNode(9000), atomNode(3), atomNode(9000), atomNode(3), atomNode(0), atomNode(0), hashNode(0), hashNode(0), hashNode(1)}
 	want := slices.Concat(nodes, []impl.Node{pairNode(8, 6), pairNode(3, 11), macNode(2, 12)})
@@ -463,15 +608,24 @@ func TestP9NodesTwice(t *testing.T) {
 	checkOneCookie(t, want, cookieAsk{9000, 3, 0}, 13)
 	twice := slices.Concat(want, []impl.Node{macNode(2, 12), pairNode(9, 7), pairNode(5, 15), macNode(4, 16)})
 	checkSecret(t, twice, cookieCall(9000, 3, 0), twice, 13)
-	for k := range twice {
-		checkCookie(t, twice, cookieAsk{9000, 3, 0}, k, k == 13 || k == 14 || k == 17)
-		checkCookie(t, twice, cookieAsk{9000, 3, 1}, k, false)
-		checkCookie(t, twice, cookieAsk{9000, 4, 0}, k, false)
-	}
+	checkOneCookie(t, twice, cookieAsk{9000, 3, 0}, 13)
+	checkNoCookie(t, twice, cookieAsk{9000, 3, 1}, cookieAsk{9000, 4, 0})
 	other := slices.Concat(nodes, []impl.Node{pairNode(10, 6), pairNode(3, 11), macNode(2, 12)})
 	checkSecret(t, nodes, cookieCall(9000, 3, 1), other, 13)
 	checkOneCookie(t, other, cookieAsk{9000, 3, 1}, 13)
 	checkNoCookie(t, other, cookieAsk{9000, 3, 0})
+	for _, later := range [][]impl.Node{
+		{pairNode(8, 6), pairNode(3, 11), macNode(4, 12)},
+		{pairNode(8, 6), pairNode(5, 11), macNode(2, 12)},
+		{pairNode(8, 7), pairNode(3, 11), macNode(2, 12)},
+		{pairNode(9, 6), pairNode(3, 11), macNode(2, 12)},
+		{pairNode(8, 6), pairNode(8, 6), pairNode(3, 12), macNode(2, 13)},
+		{pairNode(8, 6), pairNode(3, 11), pairNode(3, 11), macNode(2, 13)},
+	} {
+		has := slices.Concat(nodes, later)
+		checkNoCookie(t, has, cookieAsk{9000, 3, 0})
+		checkWherePut(t, has, cookieAsk{9000, 3, 0})
+	}
 	for _, has := range [][]impl.Node{nodes, want, twice, other} {
 		checkCookiesPlain(t, has, cookieAsks(len(has))...)
 		checkPlain(t, has, cookieCalls(len(has))...)
@@ -517,6 +671,21 @@ func TestP9FullArena(t *testing.T) {
 	one := slices.Concat(nodes[:cookie], []impl.Node{pubNode(0)}) // all but the cookie itself
 	checkNoCookie(t, one, ask)
 	checkRefused(t, one, ask.call())
+}
+
+// A TmMac ahead of all that it has, which comes to stand at the end of a full arena: it is right as soon as all of that is there.
+func TestP9FullArenaWithTheCookieAhead(t *testing.T) {
+	ask, end := cookieAsk{9000, 3, 0}, impl.MaxNodes
+	nodes := fullBut(4, atomNode(9000), atomNode(0), macNode(3, end-1))
+	want := slices.Concat(nodes, []impl.Node{atomNode(3), hashNode(0), pairNode(end-3, 4), pairNode(end-4, end-2)})
+	checkSecret(t, nodes, ask.call(), want, 5)
+	for _, has := range [][]impl.Node{want, slices.Concat(want, []impl.Node{pubNode(0)})} {
+		checkOneCookie(t, has, ask, 5)
+		checkSecret(t, has, ask.call(), has, 5)
+		checkNoCookie(t, has, cookieAsk{9000, 4, 0}, cookieAsk{9001, 3, 0}, cookieAsk{9000, 3, 1})
+	}
+	checkNoCookie(t, nodes, ask)
+	checkNoCookie(t, want[:end-1], ask)
 }
 
 // What is asked for is not put: an arena that lacks the last node alone has no cookie, also not where it would come to stand.
@@ -568,6 +737,41 @@ func TestP9DrawnArenas(t *testing.T) {
 		nodes := drawNodes(draw, 9, drawCookieNode)
 		checkPlain(t, nodes, cookieCalls(len(nodes))...)
 		checkCookiesPlain(t, nodes, cookieAsks(len(nodes))...)
+		for _, c := range cookieAsks(len(nodes)) {
+			checkWherePut(t, nodes, c)
+		}
+	}
+}
+
+// Cookies in a drawn order, some of what is there being drawn anew, once more there, or gone: a cookie is right where it is put.
+func TestP9DrawnOrders(t *testing.T) {
+	draw := rand.New(rand.NewSource(14))
+	for range 3000 {
+		nodes := slices.Clone(threeSecrets)
+		var asks []cookieAsk
+		for range 1 + draw.Intn(3) {
+			c := cookieAsk{draw.Intn(3), draw.Intn(3), draw.Intn(len(nodes))}
+			nodes, _ = mustCookie(t, nodes, c)
+			asks = append(asks, c)
+		}
+		places := draw.Perm(len(nodes))
+		nodes = moved(nodes, places)
+		for i := range asks {
+			asks[i].hello = places[asks[i].hello]
+		}
+		checkCookiesPlain(t, nodes, asks...)
+		switch at := draw.Intn(len(nodes)); draw.Intn(3) {
+		case 0:
+			nodes[at] = drawCookieNode(draw, len(nodes))
+		case 1:
+			nodes[at] = nodes[draw.Intn(len(nodes))]
+		case 2:
+			nodes = nodes[:at]
+		}
+		checkCookiesPlain(t, nodes, asks...)
+		for _, c := range asks {
+			checkWherePut(t, nodes, c)
+		}
 	}
 }
 
