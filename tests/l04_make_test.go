@@ -128,62 +128,62 @@ func (m madeArena) is(want []impl.Node, wantK int) bool {
 }
 
 func (m madeArena) String() string {
-	return fmt.Sprintf("%.200v of %d nodes, %d", m.nodes, len(m.nodes), m.at)
+	return fmt.Sprintf("%s of %d nodes, %d", brief(m.nodes), len(m.nodes), m.at)
 }
 
 func checkAtom(t *testing.T, a impl.Arena, n int, want []impl.Node, wantK int) {
 	t.Helper()
 	if got := made(impl.Atom(a, n)); !got.is(want, wantK) {
-		t.Fatalf("Atom(%.200v, %d) = %v; want %v", a, n, got, madeArena{want, wantK})
+		t.Fatalf("Atom(%s, %d) = %v; want %v", brief(a), n, got, madeArena{want, wantK})
 	}
 }
 
 func checkMake(t *testing.T, a impl.Arena, kind, x, y int, want []impl.Node, wantK int) {
 	t.Helper()
 	if got := made(impl.Make(a, kind, x, y)); !got.is(want, wantK) {
-		t.Fatalf("Make(%.200v, %d, %d, %d) = %v; want %v", a, kind, x, y, got, madeArena{want, wantK})
+		t.Fatalf("Make(%s, %d, %d, %d) = %v; want %v", brief(a), kind, x, y, got, madeArena{want, wantK})
 	}
 }
 
 func checkList(t *testing.T, a impl.Arena, list []int, want []impl.Node, wantK int) {
 	t.Helper()
 	if got := made(impl.List(a, list)); !got.is(want, wantK) {
-		t.Fatalf("List(%.200v, %.200v) = %v; want %v", a, list, got, madeArena{want, wantK})
+		t.Fatalf("List(%s, %s) = %v; want %v", brief(a), brief(list), got, madeArena{want, wantK})
 	}
 }
 
 func checkDh(t *testing.T, a impl.Arena, secret, pub int, want []impl.Node, wantK int) {
 	t.Helper()
 	if got := made(impl.DhOf(a, secret, pub)); !got.is(want, wantK) {
-		t.Fatalf("DhOf(%.200v, %d, %d) = %v; want %v", a, secret, pub, got, madeArena{want, wantK})
+		t.Fatalf("DhOf(%s, %d, %d) = %v; want %v", brief(a), secret, pub, got, madeArena{want, wantK})
 	}
 }
 
 func checkTermParts(t *testing.T, a impl.Arena, k, n int, want []int, wantOk bool) {
 	t.Helper()
 	if got, ok := impl.Parts(a, k, n); !slices.Equal(got, want) || ok != wantOk {
-		t.Fatalf("Parts(%.200v of %d nodes, %d, %d) = %.200v, %v; want %.200v, %v", a, len(a.Nodes), k, n, got, ok, want, wantOk)
+		t.Fatalf("Parts(%s of %d nodes, %d, %d) = %s, %v; want %s, %v", brief(a), len(a.Nodes), k, n, brief(got), ok, brief(want), wantOk)
 	}
 }
 
 func checkOpen(t *testing.T, a impl.Arena, key, k, want int, wantOk bool) {
 	t.Helper()
 	if got, ok := impl.Open(a, key, k); got != want || ok != wantOk {
-		t.Fatalf("Open(%.200v, %d, %d) = %d, %v; want %d, %v", a, key, k, got, ok, want, wantOk)
+		t.Fatalf("Open(%s, %d, %d) = %d, %v; want %d, %v", brief(a), key, k, got, ok, want, wantOk)
 	}
 }
 
 func checkSigned(t *testing.T, a impl.Arena, pub, k, want int, wantOk bool) {
 	t.Helper()
 	if got, ok := impl.Signed(a, pub, k); got != want || ok != wantOk {
-		t.Fatalf("Signed(%.200v, %d, %d) = %d, %v; want %d, %v", a, pub, k, got, ok, want, wantOk)
+		t.Fatalf("Signed(%s, %d, %d) = %d, %v; want %d, %v", brief(a), pub, k, got, ok, want, wantOk)
 	}
 }
 
 func checkNum(t *testing.T, a impl.Arena, k, want int, wantOk bool) {
 	t.Helper()
 	if got, ok := impl.NumOf(a, k); got != want || ok != wantOk {
-		t.Fatalf("NumOf(%.200v, %d) = %d, %v; want %d, %v", a, k, got, ok, want, wantOk)
+		t.Fatalf("NumOf(%s, %d) = %d, %v; want %d, %v", brief(a), k, got, ok, want, wantOk)
 	}
 }
 

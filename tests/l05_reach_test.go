@@ -101,7 +101,7 @@ func checkHad(t *testing.T, nodes []impl.Node, known []int, want ...int) {
 	a := arenaOf(nodes...)
 	had := impl.Reach(a, known)
 	if got := placesHad(had); len(had) != len(nodes) || !slices.Equal(got, want) {
-		t.Fatalf("Reach(%.400v of %d nodes, %.200v) has %.200v of %d; want %.200v of %d", nodes, len(nodes), known, got, len(had), want, len(nodes))
+		t.Fatalf("Reach(%s of %d nodes, %s) has %s of %d; want %s of %d", brief(nodes), len(nodes), brief(known), brief(got), len(had), brief(want), len(nodes))
 	}
 	if len(nodes) > 100 {
 		return
@@ -118,11 +118,11 @@ func checkNothing(t *testing.T, nodes []impl.Node, known []int) {
 	t.Helper()
 	a := arenaOf(nodes...)
 	if had := impl.Reach(a, known); len(had) != 0 {
-		t.Fatalf("Reach(%.400v of %d nodes, %v) = %.200v; want nothing", nodes, len(nodes), known, had)
+		t.Fatalf("Reach(%s of %d nodes, %v) = %s; want nothing", brief(nodes), len(nodes), known, brief(had))
 	}
 	for _, k := range append([]int{0, 1, 2, len(nodes) - 1, len(nodes)}, outside...) {
 		if impl.Derives(a, known, k) {
-			t.Fatalf("Derives(%.400v of %d nodes, %v, %d) = true; Reach has nothing", nodes, len(nodes), known, k)
+			t.Fatalf("Derives(%s of %d nodes, %v, %d) = true; Reach has nothing", brief(nodes), len(nodes), known, k)
 		}
 	}
 }

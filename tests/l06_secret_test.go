@@ -110,7 +110,7 @@ func epochCall(app, epoch int) secretCall {
 func checkSecret(t *testing.T, nodes []impl.Node, c secretCall, want []impl.Node, wantK int) {
 	t.Helper()
 	if got := made(c.call(arenaOf(nodes...))); !got.is(want, wantK) {
-		t.Fatalf("%s in %.400v of %d nodes = %v; want %v", c.name, nodes, len(nodes), got, madeArena{want, wantK})
+		t.Fatalf("%s in %s of %d nodes = %v; want %v", c.name, brief(nodes), len(nodes), got, madeArena{want, wantK})
 	}
 }
 

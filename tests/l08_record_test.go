@@ -90,14 +90,14 @@ func recordCall(key, epoch, seq, body int) secretCall {
 func checkHead(t *testing.T, nodes []impl.Node, k, wantEpoch, wantSeq int, wantOk bool) {
 	t.Helper()
 	if epoch, seq, ok := impl.RecordHead(arenaOf(nodes...), k); epoch != wantEpoch || seq != wantSeq || ok != wantOk {
-		t.Fatalf("RecordHead(%.400v of %d nodes, %d) = %d, %d, %v; want %d, %d, %v", nodes, len(nodes), k, epoch, seq, ok, wantEpoch, wantSeq, wantOk)
+		t.Fatalf("RecordHead(%s of %d nodes, %d) = %d, %d, %v; want %d, %d, %v", brief(nodes), len(nodes), k, epoch, seq, ok, wantEpoch, wantSeq, wantOk)
 	}
 }
 
 func checkBody(t *testing.T, nodes []impl.Node, key, k, want int, wantOk bool) {
 	t.Helper()
 	if got, ok := impl.OpenRecord(arenaOf(nodes...), key, k); got != want || ok != wantOk {
-		t.Fatalf("OpenRecord(%.400v of %d nodes, %d, %d) = %d, %v; want %d, %v", nodes, len(nodes), key, k, got, ok, want, wantOk)
+		t.Fatalf("OpenRecord(%s of %d nodes, %d, %d) = %d, %v; want %d, %v", brief(nodes), len(nodes), key, k, got, ok, want, wantOk)
 	}
 }
 
