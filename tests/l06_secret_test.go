@@ -609,6 +609,19 @@ func checkNewMemory(t *testing.T, first []impl.Node, calls []secretCall) {
 	checkPlain(t, a.Nodes, calls...)
 }
 
+// checkOnlyRead asks each place of an arena, and those beside it: the arena and the spare room behind it stay as they are.
+func checkOnlyRead(t *testing.T, nodes []impl.Node, ask func(a impl.Arena, k int)) {
+	t.Helper()
+	spares := slices.Repeat([]impl.Node{{Kind: 55, Num: 55}}, 12)
+	room := slices.Concat(nodes, spares)
+	for k := -1; k <= len(nodes); k++ {
+		ask(impl.Arena{Nodes: room[:len(nodes)]}, k)
+		if !slices.Equal(room, slices.Concat(nodes, spares)) {
+			t.Fatalf("the arena, or the room behind it, became %v", room)
+		}
+	}
+}
+
 func TestP6AnswersAreNewMemory(t *testing.T) {
 	first := slices.Concat(threeSecrets, []impl.Node{atomNode(1), kdfNode(0, 3), hashNode(1)})
 	checkNewMemory(t, first, allCalls(len(first)))

@@ -636,16 +636,9 @@ func TestP8AnswersAreNewMemory(t *testing.T) {
 	for _, end := range []int{3, 6, len(nodes)} {
 		checkNewMemory(t, nodes[:end], recordCalls(end))
 	}
-	spares := slices.Repeat([]impl.Node{{Kind: 55, Num: 55}}, 3)
-	room := slices.Concat(nodes, spares)
-	a := impl.Arena{Nodes: room[:len(nodes)]}
-	for range 2 {
-		for key := range nodes {
-			impl.RecordHead(a, key)
-			impl.OpenRecord(a, key, record)
-		}
-		if !slices.Equal(room, slices.Concat(nodes, spares)) {
-			t.Fatalf("the arena, or the room behind it, became %v", room)
-		}
-	}
+	checkOnlyRead(t, nodes, func(a impl.Arena, k int) {
+		impl.RecordHead(a, k)
+		impl.OpenRecord(a, k, record)
+		impl.OpenRecord(a, 0, k)
+	})
 }

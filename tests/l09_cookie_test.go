@@ -534,6 +534,17 @@ func inOrders(n int, each func(places []int)) {
 	from(0)
 }
 
+// drawPlaces are places in a drawn order, or in their own but for two that change places, so that many nodes are still right.
+func drawPlaces(draw *rand.Rand, n int) []int {
+	if draw.Intn(2) == 0 {
+		return draw.Perm(n)
+	}
+	places := everyPlace(n)
+	x, y := draw.Intn(n), draw.Intn(n)
+	places[x], places[y] = places[y], places[x]
+	return places
+}
+
 // moved has each node at another place, and what it has where that came to stand.
 func moved(nodes []impl.Node, places []int) []impl.Node {
 	out := make([]impl.Node, len(nodes))
@@ -798,16 +809,10 @@ func TestP9AnswersAreNewMemory(t *testing.T) {
 	for _, end := range []int{0, 3, 6, len(nodes)} {
 		checkNewMemory(t, nodes[:end], cookieCalls(end))
 	}
-	spares := slices.Repeat([]impl.Node{{Kind: 55, Num: 55}}, 8)
 	for _, end := range []int{0, 3, cookie, len(nodes)} {
-		room := slices.Concat(nodes[:end], spares)
-		a := impl.Arena{Nodes: room[:end]}
-		for k := -1; k <= end; k++ {
+		checkOnlyRead(t, nodes[:end], func(a impl.Arena, k int) {
 			impl.CookieOk(a, 9000, 3, 0, k)
 			impl.CookieOk(a, 9001, 4, 1, k)
-		}
-		if !slices.Equal(room, slices.Concat(nodes[:end], spares)) {
-			t.Fatalf("the arena, or the room behind it, became %v", room)
-		}
+		})
 	}
 }

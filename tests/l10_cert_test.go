@@ -564,13 +564,7 @@ func TestP10DrawnOrders(t *testing.T) {
 	draw := rand.New(rand.NewSource(15))
 	for range 3000 {
 		nodes, _ := aloneCert(draw.Intn(10))
-		places := draw.Perm(len(nodes))
-		if draw.Intn(2) == 0 { // only two of them change places, so that many are still right
-			places = everyPlace(len(nodes))
-			x, y := draw.Intn(len(nodes)), draw.Intn(len(nodes))
-			places[x], places[y] = places[y], places[x]
-		}
-		all := moved(nodes, places)
+		all := moved(nodes, drawPlaces(draw, len(nodes)))
 		checkCertsPlain(t, all)
 		checkPlain(t, all, certCall(4), certCall(0), longCall(4))
 	}
@@ -658,6 +652,18 @@ func TestP10DrawnArenas(t *testing.T) {
 	}
 }
 
+// drawAnew lets another node stand at a place: a drawn one, one that is there already, or the same with other terms.
+func drawAnew(draw *rand.Rand, nodes []impl.Node, at int, one func(draw *rand.Rand, k int) impl.Node) {
+	switch draw.Intn(3) {
+	case 0:
+		nodes[at] = one(draw, at)
+	case 1:
+		nodes[at] = nodes[draw.Intn(len(nodes))]
+	case 2:
+		nodes[at].A, nodes[at].B = draw.Intn(at+1), draw.Intn(at+1)
+	}
+}
+
 // Certificates of which one node is drawn anew: each place answers as the plain way does.
 func TestP10DrawnCerts(t *testing.T) {
 	draw := rand.New(rand.NewSource(17))
@@ -667,15 +673,7 @@ func TestP10DrawnCerts(t *testing.T) {
 			nodes, _ = mustCert(t, nodes, draw.Intn(10))
 		}
 		checkCertsPlain(t, nodes)
-		at := draw.Intn(len(nodes))
-		switch draw.Intn(3) {
-		case 0:
-			nodes[at] = drawCertNode(draw, at)
-		case 1:
-			nodes[at] = nodes[draw.Intn(len(nodes))]
-		case 2:
-			nodes[at].A, nodes[at].B = draw.Intn(at+1), draw.Intn(at+1)
-		}
+		drawAnew(draw, nodes, draw.Intn(len(nodes)), drawCertNode)
 		checkCertsPlain(t, nodes)
 		checkPlain(t, nodes, certCall(draw.Intn(10)))
 	}
@@ -686,14 +684,7 @@ func TestP10AnswersAreNewMemory(t *testing.T) {
 	for _, end := range []int{0, 3, 6, len(nodes)} {
 		checkNewMemory(t, nodes[:end], nameCalls())
 	}
-	spares := slices.Repeat([]impl.Node{{Kind: 55, Num: 55}}, 12)
 	for _, end := range []int{0, 3, 9, len(nodes)} {
-		room := slices.Concat(nodes[:end], spares)
-		for k := -1; k <= end; k++ {
-			impl.CertIn(impl.Arena{Nodes: room[:end]}, k)
-		}
-		if !slices.Equal(room, slices.Concat(nodes[:end], spares)) {
-			t.Fatalf("the arena, or the room behind it, became %v", room)
-		}
+		checkOnlyRead(t, nodes[:end], func(a impl.Arena, k int) { impl.CertIn(a, k) })
 	}
 }
