@@ -253,7 +253,7 @@ func mustMake(t *testing.T, a impl.Arena, c secretCall) (impl.Arena, int) {
 	t.Helper()
 	b, k := c.call(a)
 	if k < 0 || !slices.Equal(b.Nodes[:len(a.Nodes)], a.Nodes) {
-		t.Fatalf("%s in %v = %v, %d; want what is there, and a place", c.name, a, b, k)
+		t.Fatalf("%s in %s of %d nodes = %s, %d; want what is there, and a place", c.name, brief(a.Nodes), len(a.Nodes), brief(b.Nodes), k)
 	}
 	return b, k
 }
