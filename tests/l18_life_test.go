@@ -787,6 +787,21 @@ func TestP18Takes(t *testing.T) {
 		late = carryAll(t, steps(t, late, 0, eventOf(impl.EvSend, 0, 20), eventOf(impl.EvSend, 1, 10)))
 		checkSafe(late, "1 9 true", "9 1 true", "2 9 true", "9 2 true") // what was agreed on stays safe
 	}
+	// The gate came to its end ahead of it, the client behind it: what each says and hears is as safe as its own end.
+	between := steps(t, impl.WorldNew(impl.MdCert, twoRoutes), 0, eventOf(impl.EvStart, 0, 0))
+	for len(between.Done) == 0 {
+		between = steps(t, between, 0, eventOf(impl.EvCarry, 0, 0))
+	}
+	between = carryAll(t, steps(t, between, 0, eventOf(impl.EvTake, 0, 1)))
+	between = carryAll(t, steps(t, between, 0, eventOf(impl.EvSend, 0, 10)))
+	if len(between.Sent) != 2 || len(between.Got) != 2 {
+		t.Fatalf("it is %s", tellWorld(between))
+	}
+	for _, n := range slices.Concat(between.Done, between.Sent, between.Got) {
+		if n.Safe != (n.Name == 9) {
+			t.Fatalf("noted is %+v in %s", n, tellWorld(between))
+		}
+	}
 	full := worldCopy(w)
 	full.Arena.Nodes = fill(full.Arena.Nodes, 0)
 	if got := steps(t, full, 0, eventOf(impl.EvTake, 0, 0)); len(got.Known) != 11 || len(got.Taken) != 2 { // the long secret is there, the other one is not
